@@ -41,6 +41,14 @@ func bigProduct(a bigRat, b bigRat) bigRat {
 	return checkedBig(new(big.Rat).Mul(a, b))
 }
 
+// bigQuotient does not divide by 0.
+func bigQuotient(a bigRat, b bigRat) bigRat {
+	if a == nil || b == nil {
+		return nil
+	}
+	return checkedBig(new(big.Rat).Quo(a, b))
+}
+
 func ratOrZero(n bigRat) impl.Rat {
 	if n == nil {
 		return impl.Rat{}
@@ -345,12 +353,17 @@ func TestP15InnerAndCross(t *testing.T) {
 	}
 }
 
-func checkDoubleArea(t *testing.T, a, b, c impl.Point) {
-	t.Helper()
+// bigDoubleArea is DoubleArea, computed without the program.
+func bigDoubleArea(a, b, c impl.Point) bigRat {
 	ax, ay := bigOfRat(a.X), bigOfRat(a.Y)
 	bx, by := bigDifference(bigOfRat(b.X), ax), bigDifference(bigOfRat(b.Y), ay)
 	cx, cy := bigDifference(bigOfRat(c.X), ax), bigDifference(bigOfRat(c.Y), ay)
-	sameRatOfPoints(t, impl.DoubleArea(a, b, c), ratOrZero(bigCross(bx, by, cx, cy)), "DoubleArea", a, b, c)
+	return bigCross(bx, by, cx, cy)
+}
+
+func checkDoubleArea(t *testing.T, a, b, c impl.Point) {
+	t.Helper()
+	sameRatOfPoints(t, impl.DoubleArea(a, b, c), ratOrZero(bigDoubleArea(a, b, c)), "DoubleArea", a, b, c)
 }
 
 func TestP15DoubleArea(t *testing.T) {
