@@ -357,7 +357,8 @@ func toTheLeft(a, b, p bigPoint) *big.Rat {
 	return first.Sub(first, second)
 }
 
-// exactSide is SideOf for a proper corner list.
+// exactSide returns the side of a proper corner list on which p is, however large the
+// areas are.
 func exactSide(l []impl.Point, p impl.Point) int {
 	side := 1
 	for i := range l {
@@ -367,14 +368,33 @@ func exactSide(l []impl.Point, p impl.Point) int {
 	return side
 }
 
+// wantedSide is SideOf for a proper corner list and a valid point: 0 if an area is
+// too large.
+func wantedSide(l []impl.Point, p impl.Point) int {
+	side := 1
+	for i := range l {
+		area := bigDoubleArea(l[i], l[(i+1)%3], p)
+		if area == nil {
+			return 0
+		}
+		side = min(side, area.Sign())
+	}
+	return side
+}
+
+func checkSide(t *testing.T, l []impl.Point, p impl.Point, want int) {
+	t.Helper()
+	if got := impl.SideOf(l, p); got != want {
+		t.Errorf("SideOf(%v, %v) = %d, want %d", l, p, got, want)
+	}
+}
+
 func TestP15SideOf(t *testing.T) {
 	for _, l := range smallLists() {
 		for x := int64(-8); x <= 12; x++ {
 			for y := int64(-8); y <= 12; y++ {
 				p := smallPoint(x, y, 3)
-				if got, want := impl.SideOf(l, p), exactSide(l, p); got != want {
-					t.Errorf("SideOf(%v, %v) = %d, want %d", l, p, got, want)
-				}
+				checkSide(t, l, p, exactSide(l, p))
 			}
 		}
 	}
@@ -384,9 +404,7 @@ func TestP15SideOf(t *testing.T) {
 		first, second := smallRat(int64(s.upTo(5)-2), 3), smallRat(int64(s.upTo(5)-2), 3)
 		along, across := impl.SubtractPoints(l[1], l[0]), impl.SubtractPoints(l[2], l[0])
 		p := impl.AddPoints(l[0], impl.AddPoints(impl.ScalePoint(first, along), impl.ScalePoint(second, across)))
-		if got, want := impl.SideOf(l, p), exactSide(l, p); got != want {
-			t.Errorf("SideOf(%v, %v) = %d, want %d", l, p, got, want)
-		}
+		checkSide(t, l, p, exactSide(l, p))
 	}
 }
 
@@ -408,9 +426,7 @@ func TestP15SideOfNextToTheBoundary(t *testing.T) {
 	}
 	for _, c := range tests {
 		for _, l := range rotations(cornersAt(1, 0, 0, 2, 0, 0, 2)) {
-			if got := impl.SideOf(l, c.p); got != c.want {
-				t.Errorf("SideOf(%v, %v) = %d, want %d", l, c.p, got, c.want)
-			}
+			checkSide(t, l, c.p, c.want)
 		}
 	}
 }
@@ -676,23 +692,35 @@ func TestP15SidesOfMoreThanMaxRatLimbs(t *testing.T) {
 		p    impl.Point
 		want int
 	}{
-		{impl.Point{X: long[0], Y: long[0]}, -1},
-		{impl.Point{X: long[0], Y: smallRat(1, 1)}, -1},
-		{impl.Point{X: smallRat(1, 1), Y: long[1]}, -1},
-		{impl.Point{X: impl.RatNeg(long[3]), Y: long[3]}, -1},
+		{impl.Point{X: long[0], Y: long[0]}, 0},
 		// The areas beside the sides are not too large, but products in Barycentric are.
 		{impl.Point{X: share, Y: share}, 1},
 		{impl.Point{X: share, Y: impl.RatNeg(share)}, -1},
-		// Inside, but the third area is too large to tell.
-		{impl.Point{X: share, Y: other}, -1},
+		// Inside, but the second area is too large.
+		{impl.Point{X: share, Y: other}, 0},
+		// The second area is too large, and the first or the third one is negative.
+		{impl.Point{X: share, Y: impl.RatNeg(other)}, 0},
+		{impl.Point{X: impl.RatNeg(share), Y: other}, 0},
 	}
 	for _, c := range tests {
-		if got := impl.SideOf(l, c.p); got != c.want {
-			t.Errorf("SideOf(%v, %v) = %d, want %d", l, c.p, got, c.want)
+		for _, r := range rotations(l) {
+			checkSide(t, r, c.p, c.want)
+			sameRats(t, impl.Barycentric(r, c.p), wantedCoordinates(r, c.p), "Barycentric", r, c.p)
 		}
-		sameRats(t, impl.Barycentric(l, c.p), wantedCoordinates(l, c.p), "Barycentric", l, c.p)
 	}
-	sameRats(t, impl.Barycentric(l, tests[4].p), nil, "Barycentric", l, tests[4].p)
+	sameRats(t, impl.Barycentric(l, tests[1].p), nil, "Barycentric", l, tests[1].p)
+	tooLarge := 0
+	for _, l := range append(properLists(), []impl.Point{smallPoint(0, 0, 1), smallPoint(4, 0, 1), tests[3].p}) {
+		for _, p := range append(samplePoints(), l...) {
+			checkSide(t, l, p, wantedSide(l, p))
+			if wantedSide(l, p) != exactSide(l, p) {
+				tooLarge++
+			}
+		}
+	}
+	if tooLarge < 100 {
+		t.Errorf("the areas are too large for %d points only", tooLarge)
+	}
 }
 
 // TestP15OverlapsOfMoreThanMaxRatLimbs uses areas that are too large and therefore
@@ -720,9 +748,7 @@ func checkListIsRejected(t *testing.T, l []impl.Point) {
 	points := append(slices.Clone(l), smallPoint(0, 0, 1), smallPoint(1, 1, 2), impl.Point{}, impl.Point{X: longRats()[0], Y: longRats()[1]})
 	for _, p := range points {
 		sameRats(t, impl.Barycentric(l, p), nil, "Barycentric", l, p)
-		if got := impl.SideOf(l, p); got != -1 {
-			t.Errorf("SideOf(%v, %v) = %d, want -1", l, p, got)
-		}
+		checkSide(t, l, p, -1)
 	}
 	checkOverlap(t, l, l, false)
 	checkOverlap(t, l, cornersAt(1, 0, 0, 2, 0, 0, 2), false)
@@ -736,9 +762,7 @@ func TestP15InvalidArgumentsOfTriangles(t *testing.T) {
 	for _, l := range smallLists()[:6] {
 		for _, bad := range notPoints() {
 			sameRats(t, impl.Barycentric(l, bad), nil, "Barycentric", l, bad)
-			if got := impl.SideOf(l, bad); got != -1 {
-				t.Errorf("SideOf(%v, %v) = %d, want -1", l, bad, got)
-			}
+			checkSide(t, l, bad, -1)
 		}
 	}
 }
