@@ -536,9 +536,8 @@ func longCenter() impl.Point {
 	return impl.Point{X: impl.RatAdd(share, impl.RatFromInt(1)), Y: impl.RatAdd(other, impl.RatFromInt(1))}
 }
 
-// TestP15IsMeshWithAreasOfMoreThanMaxRatLimbs uses a center from which on no triangle is
-// proper. Other areas that are not too large tell that they do
-// not overlap.
+// TestP15IsMeshWithAreasOfMoreThanMaxRatLimbs uses a center with which a triangle is
+// proper only from one of the two corners on the boundary on.
 func TestP15IsMeshWithAreasOfMoreThanMaxRatLimbs(t *testing.T) {
 	corners := []int{0, 1, 4, 1, 2, 4, 2, 3, 4, 3, 0, 4}
 	m := withPoint(meshAt(1, []int64{0, 0, 2, 0, 2, 2, 0, 2, 1, 1}, corners...), 4, longCenter())
@@ -546,15 +545,10 @@ func TestP15IsMeshWithAreasOfMoreThanMaxRatLimbs(t *testing.T) {
 	for k, u := range m.Triangles {
 		checkMesh(t, withTriangle(m, k, impl.Tri{A: u.C, B: u.A, C: u.B}), false)
 		checkMesh(t, withTriangle(m, k, impl.Tri{A: u.B, B: u.C, C: u.A}), true)
-		// Overlap is false here, because the areas that would tell are too large.
-		checkMesh(t, further(m, nil, u), false)
-		if l := cornersOf(m, u); !impl.IsProper(l) || impl.Overlap(l, l) {
-			t.Errorf("IsProper(%v) and Overlap = %t, %t, want true, false", l, impl.IsProper(l), impl.Overlap(l, l))
-		}
 	}
-	// The center is next to an edge, but its area with the edge is too large.
+	// The center is next to an edge, and its area with the edge is too large.
 	m = withPoint(meshAt(1, []int64{0, 0, 2, 0, 0, 2, 1, 1, 5, 5, 5, 6}, 0, 1, 2, 4, 5, 3), 3, longCenter())
-	checkMesh(t, m, false)
+	checkMesh(t, m, true)
 	checkMesh(t, withPoint(m, 3, smallPoint(1000001, 1000002, 1000000)), true)
 	checkMesh(t, withPoint(m, 3, smallPoint(1, 1, 1)), false)
 	// The same, where a vertical line separates the triangles.
@@ -562,7 +556,134 @@ func TestP15IsMeshWithAreasOfMoreThanMaxRatLimbs(t *testing.T) {
 	checkMesh(t, m, true)
 	m = withPoint(withPoint(m, 1, impl.Point{X: longCenter().X, Y: smallRat(0, 1)}), 2, impl.Point{X: longCenter().X, Y: smallRat(2, 1)})
 	checkMesh(t, m, true)
-	checkMesh(t, withPoint(m, 3, impl.Point{X: smallRat(0, 1), Y: longCenter().Y}), false)
+	checkMesh(t, withPoint(m, 3, impl.Point{X: smallRat(0, 1), Y: longCenter().Y}), true)
+	// A point inside of a vertical and of a horizontal edge.
+	m = meshAt(1, []int64{0, 0, 2, 0, 0, 2, -1, -1, -1, 1}, 0, 1, 2)
+	for _, p := range []impl.Point{{X: smallRat(0, 1), Y: longCenter().Y}, {X: longCenter().X, Y: smallRat(0, 1)}} {
+		next := further(usedPart(m, m.Triangles), []impl.Point{p, smallPoint(-1, -1, 1), smallPoint(-2, 1, 3)}, impl.Tri{A: 3, B: 5, C: 4})
+		if !isProperList(cornersOf(next, next.Triangles[1])) {
+			t.Errorf("the second triangle of %v is not proper", next)
+		}
+		checkMesh(t, next, false)
+	}
+}
+
+// wantedOverlap is Overlap for proper corner lists, computed without the program: an
+// area that is too large is not positive.
+func wantedOverlap(l []impl.Point, m []impl.Point) bool {
+	isPositive := func(a, b, c impl.Point) bool {
+		area := bigDoubleArea(a, b, c)
+		return area != nil && area.Sign() > 0
+	}
+	for i := range 3 {
+		beside := func(p impl.Point) bool { return isPositive(l[i], l[(i+1)%3], p) }
+		others := func(p impl.Point) bool { return isPositive(m[i], m[(i+1)%3], p) }
+		if !slices.ContainsFunc(m, beside) || !slices.ContainsFunc(l, others) {
+			return false
+		}
+	}
+	return true
+}
+
+// nearRat returns a fraction that is greater than n by a little less than 1 / 10^tens,
+// or n itself.
+func (s *source) nearRat(n int64, tens int64) impl.Rat {
+	little := new(big.Int).Exp(big.NewInt(10), big.NewInt(tens), nil)
+	little.Add(little, big.NewInt(int64(s.upTo(30))))
+	if s.upTo(4) == 0 {
+		return smallRat(n, 1)
+	}
+	return ratOfBig(new(big.Rat).Add(big.NewRat(n, 1), new(big.Rat).SetFrac(big.NewInt(1), little)))
+}
+
+// longSidedMesh returns two triangles. Some areas of corners of the first one and a
+// corner of the second one, which may be on or next to a side, are too large.
+func (s *source) longSidedMesh() impl.Mesh {
+	zero := smallRat(0, 1)
+	m := impl.Mesh{Triangles: []impl.Tri{{A: 0, B: 1, C: 2}, {A: 3, B: 4, C: 5}}}
+	m.Points = []impl.Point{smallPoint(0, 0, 1), {X: s.nearRat(4, 99), Y: zero}, {X: zero, Y: s.nearRat(4, 99)}}
+	for {
+		var l []impl.Point
+		for range 3 {
+			p := impl.Point{X: s.nearRat(int64(s.upTo(7)), 36), Y: s.nearRat(int64(s.upTo(7)), 36)}
+			if s.upTo(6) == 0 {
+				side := impl.SubtractPoints(m.Points[2], m.Points[1])
+				p = impl.AddPoints(m.Points[1], impl.ScalePoint(impl.RatSub(s.nearRat(1, 36), smallRat(1, 2)), side))
+			}
+			l = append(l, p)
+		}
+		l = turnedLeft(l)
+		if isProperList(l) && impl.IsValidPoint(l[0]) && impl.IsValidPoint(l[1]) && impl.IsValidPoint(l[2]) {
+			m.Points = append(m.Points, l...)
+			return m
+		}
+	}
+}
+
+// TestP15IsMeshAgreesWithOverlap uses areas that are too large: they do not tell that
+// triangles overlap, or that a point is on an edge.
+func TestP15IsMeshAgreesWithOverlap(t *testing.T) {
+	s := source(36)
+	counts := map[string]int{}
+	for range 800 {
+		m := s.longSidedMesh()
+		l, u := cornersOf(m, m.Triangles[0]), cornersOf(m, m.Triangles[1])
+		hanging, overlap := hasPointInside(m, l) || hasPointInside(m, u), wantedOverlap(l, u)
+		checkOverlap(t, l, u, overlap)
+		checkMesh(t, m, !hanging && !overlap && !hasSamePoints(m))
+		switch common := haveCommonArea(l, u); {
+		case hanging && !overlap:
+			counts["a point on an edge"]++
+		case overlap:
+			counts["an overlap"]++
+		case common:
+			counts["a common area that is not an overlap"]++
+		case slices.ContainsFunc(u, func(p impl.Point) bool { return bigDoubleArea(l[1], l[2], p) == nil }):
+			counts["an area that is too large"]++
+		default:
+			counts["none of these"]++
+		}
+	}
+	if len(counts) != 5 {
+		t.Errorf("the meshes are of the kinds %v, want five", counts)
+	}
+	for kind, n := range counts {
+		if n < 50 {
+			t.Errorf("there are only %d meshes with %s", n, kind)
+		}
+	}
+}
+
+func hasSamePoints(m impl.Mesh) bool {
+	for i, p := range m.Points {
+		if slices.ContainsFunc(m.Points[:i], func(q impl.Point) bool { return equalPoints(p, q) }) {
+			return true
+		}
+	}
+	return false
+}
+
+// TestP15EdgesOfTrianglesThatAreThereTwice uses areas that are too large, because of
+// which Overlap is false for a triangle and itself.
+func TestP15EdgesOfTrianglesThatAreThereTwice(t *testing.T) {
+	corners := []int{0, 1, 4, 1, 2, 4, 2, 3, 4, 3, 0, 4}
+	m := withPoint(meshAt(1, []int64{0, 0, 2, 0, 2, 2, 0, 2, 1, 1}, corners...), 4, longCenter())
+	for _, u := range m.Triangles {
+		l := cornersOf(m, u)
+		checkOverlap(t, l, l, false)
+		once := impl.Mesh{Points: l, Triangles: []impl.Tri{{A: 0, B: 1, C: 2}}}
+		next := []impl.Mesh{further(m, nil, u), further(m, nil, u, u, u), further(impl.Mesh{Points: m.Points}, nil, append([]impl.Tri{u}, m.Triangles...)...)}
+		next = append(next, further(m, nil, m.Triangles...), further(once, nil, once.Triangles[0], impl.Tri{A: 1, B: 2, C: 0}))
+		for _, twice := range next {
+			checkMesh(t, twice, true)
+			if got, want := impl.EdgesOf(twice), wantedEdges(twice); !slices.Equal(got, want) {
+				t.Errorf("EdgesOf(%v) = %v, want %v", twice, got, want)
+			}
+			boundary, interior := wantedPoints(twice)
+			sameInts(t, impl.BoundaryPoints(twice), boundary, "BoundaryPoints", twice)
+			sameInts(t, impl.InteriorPoints(twice), interior, "InteriorPoints", twice)
+		}
+	}
 }
 
 func TestP15Corners(t *testing.T) {
