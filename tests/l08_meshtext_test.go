@@ -256,19 +256,24 @@ func isWrittenMesh(text string) bool {
 	return impl.IsMesh(m) && wantedText(m) == text
 }
 
-// TestP15ParseMeshOfChangedTexts changes, removes and inserts single bytes and lines.
+// changedTexts returns texts that result if the beginning or the end of a text is removed,
+// or if a piece replaces a byte or comes between two bytes.
+func changedTexts(text string, pieces ...string) []string {
+	var texts []string
+	for i := range len(text) + 1 {
+		texts = append(texts, text[:i], text[i:])
+		for _, piece := range pieces {
+			texts = append(texts, text[:i]+piece+text[i:], text[:i]+piece+text[min(i+1, len(text)):])
+		}
+	}
+	return texts
+}
+
 func TestP15ParseMeshOfChangedTexts(t *testing.T) {
 	accepted := 0
+	pieces := []string{"", "0", "1", "2", "3", "9", "-", "+", "/", ",", " ", "\n", "\r", "\t", "p", "t", "P", "\x00", "\xff", "p ", "t 0 1 2 0 0\n", "p 7,7\n", "\r\n", "\u00a0"}
 	for _, m := range []impl.Mesh{meshAt(2, []int64{0, 0, 3, 0, 0, -4, 10, 21}, 2, 1, 0, 3, 0, 1), squareWithCenter(), simpleMeshes()[0]} {
-		text := wantedText(m)
-		var texts []string
-		for i := range len(text) + 1 {
-			texts = append(texts, text[:i], text[i:])
-			for _, b := range []string{"", "0", "1", "2", "3", "9", "-", "+", "/", ",", " ", "\n", "\r", "\t", "p", "t", "P", "\x00", "\xff", "p ", "t 0 1 2 0 0\n", "p 7,7\n", "\r\n", "\u00a0"} {
-				texts = append(texts, text[:i]+b+text[i:], text[:i]+b+text[min(i+1, len(text)):])
-			}
-		}
-		for _, s := range texts {
+		for _, s := range changedTexts(wantedText(m), pieces...) {
 			isMesh := isWrittenMesh(s)
 			checkText(t, s, isMesh)
 			if isMesh {
@@ -281,19 +286,28 @@ func TestP15ParseMeshOfChangedTexts(t *testing.T) {
 	}
 }
 
+// reorderedTexts returns texts with two lines exchanged, with a line that comes again,
+// earlier or later, and without some lines.
+func reorderedTexts(text string) []string {
+	var texts []string
+	lines := strings.SplitAfter(text, "\n")
+	for i := range lines {
+		for j := range i {
+			other := slices.Clone(lines)
+			other[i], other[j] = other[j], other[i]
+			earlier, later := slices.Insert(slices.Clone(lines), j, lines[i]), slices.Insert(slices.Clone(lines), i, lines[j])
+			for _, list := range [][]string{other, earlier, later, slices.Delete(slices.Clone(lines), j, i)} {
+				texts = append(texts, strings.Join(list, ""))
+			}
+		}
+	}
+	return texts
+}
+
 func TestP15ParseMeshOfLinesInAnotherOrder(t *testing.T) {
 	for _, m := range []impl.Mesh{squareWithCenter(), impl.CornerMesh(), turned(gridMesh(1, 1))} {
-		lines := strings.SplitAfter(wantedText(m), "\n")
-		for i := range lines {
-			for j := range i {
-				other := slices.Clone(lines)
-				other[i], other[j] = other[j], other[i]
-				further, fewer := slices.Insert(slices.Clone(lines), j, lines[i]), slices.Delete(slices.Clone(lines), j, i)
-				for _, list := range [][]string{other, further, fewer} {
-					text := strings.Join(list, "")
-					checkText(t, text, isWrittenMesh(text))
-				}
-			}
+		for _, text := range reorderedTexts(wantedText(m)) {
+			checkText(t, text, isWrittenMesh(text))
 		}
 	}
 	triangles, points := "t 0 1 2 0 0\n", "p 0,0\np 1,0\np 0,1\n"
