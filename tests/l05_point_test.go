@@ -13,8 +13,11 @@ import (
 // a fraction from which it is computed, exceeds the document's limit.
 type bigRat = *big.Rat
 
+// beyondLimit is the least natural number that has more than 24 limbs.
+var beyondLimit = new(big.Int).Exp(big.NewInt(1000000000), big.NewInt(24), nil)
+
 func checkedBig(n bigRat) bigRat {
-	if !impl.RatOk(limitedRat(n)) {
+	if n.Num().CmpAbs(beyondLimit) >= 0 || n.Denom().Cmp(beyondLimit) >= 0 {
 		return nil
 	}
 	return n
